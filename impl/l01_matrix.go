@@ -37,12 +37,21 @@ func IsMatrix(m Matrix) bool {
 	if int64(len(m.Entries)) != m.Rows*m.Columns {
 		return false
 	}
-	for _, e := range m.Entries {
-		if e < -MaxEntry || e > MaxEntry {
+	return areEntries(m.Entries)
+}
+
+// areEntries reports whether all numbers of the list are permitted as entries.
+func areEntries(list []int64) bool {
+	for _, x := range list {
+		if !isEntry(x) {
 			return false
 		}
 	}
 	return true
+}
+
+func isEntry(x int64) bool {
+	return x >= -MaxEntry && x <= MaxEntry
 }
 
 func isSide(n int64) bool {
