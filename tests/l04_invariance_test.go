@@ -8,8 +8,8 @@ import (
 )
 
 // checkSameGroup makes a move by the model, too, and sees that it changes neither the
-// abelianization nor the number of actions on three numbers. It reports whether the move and both
-// abelianizations succeeded.
+// abelianization nor the numbers of representations and of actions on three numbers. It reports
+// whether the move and both abelianizations succeeded.
 func checkSameGroup(t *testing.T, p impl.Presentation, m impl.TietzeMove) bool {
 	t.Helper()
 	q, code := checkMove(t, p, m)
@@ -17,6 +17,7 @@ func checkSameGroup(t *testing.T, p impl.Presentation, m impl.TietzeMove) bool {
 		return false
 	}
 	checkActions(t, p, q)
+	checkRepresentations(t, p, q, 4)
 	return checkAbelianizations(t, p, q)
 }
 

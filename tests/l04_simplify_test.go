@@ -117,6 +117,7 @@ func TestSimplifyOrdinary(t *testing.T) {
 	for _, p := range list {
 		simple, moves := checkSimplification(t, p)
 		checkActions(t, p, simple)
+		checkRepresentations(t, p, simple, 6)
 		checkAbelianizations(t, p, simple)
 		lengths[min(len(moves), 5)]++
 	}
