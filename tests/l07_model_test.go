@@ -115,15 +115,21 @@ func freeFaces(t impl.Triangulation) [][]int64 {
 	return pairs
 }
 
+// freePair returns two of the pairs of freeFaces.
+func (s *numbers) freePair(t impl.Triangulation) ([]int64, []int64) {
+	free := freeFaces(t)
+	i := s.next(0, int64(len(free))-1)
+	here := free[i]
+	free = slices.Delete(free, int(i), int(i)+1)
+	return here, free[s.next(0, int64(len(free))-1)]
+}
+
 // triangulation returns some triangulation with at most so many gluings.
 func (s *numbers) triangulation(tets int64, gluings int64) impl.Triangulation {
 	t := unglued(int(tets))
 	for range min(gluings, 2*tets) {
-		free := freeFaces(t)
-		i := s.next(0, int64(len(free))-1)
-		here := free[i]
-		free = slices.Delete(free, int(i), int(i)+1)
-		glueFaces(t, here, free[s.next(0, int64(len(free))-1)], s.permutation(4))
+		here, there := s.freePair(t)
+		glueFaces(t, here, there, s.permutation(4))
 	}
 	return t
 }
