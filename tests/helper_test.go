@@ -58,3 +58,17 @@ func guarded(t *testing.T, m impl.Matrix) (impl.Matrix, func()) {
 		}
 	}
 }
+
+// spoilLists overwrites all the memory of the lists of results, each list by a number of its own, and finds
+// lists that share some.
+func spoilLists(t *testing.T, lists [][]int64) {
+	t.Helper()
+	for i, list := range lists {
+		copy(list[:cap(list)], repeated(int64(1000+i), cap(list)))
+	}
+	for i, list := range lists {
+		if !slices.Equal(list[:cap(list)], repeated(int64(1000+i), cap(list))) {
+			t.Fatal("two lists share memory", i)
+		}
+	}
+}

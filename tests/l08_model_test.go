@@ -218,18 +218,23 @@ func ringOf(tri impl.Triangulation, class int64) []impl.Corner {
 	return ring
 }
 
+// fittingPerm returns the index of some permutation that maps a face to another one and has this sign.
+func (s *numbers) fittingPerm(from int64, to int64, sign int64) int64 {
+	var perms []int64
+	for perm, images := range allOfFour {
+		if images[from] == to && signOfList(images) == sign {
+			perms = append(perms, int64(perm))
+		}
+	}
+	return perms[s.next(0, int64(len(perms))-1)]
+}
+
 // orientedTriangulation is glued by permutations with the sign -1 only, so that no edge is reversed.
 func (s *numbers) orientedTriangulation(tets int64, gluings int64) impl.Triangulation {
 	t := unglued(int(tets))
 	for range min(gluings, 2*tets) {
 		here, there := s.freePair(t)
-		var perms []int64
-		for perm, images := range allOfFour {
-			if images[here[1]] == there[1] && signOfList(images) == -1 {
-				perms = append(perms, int64(perm))
-			}
-		}
-		glueModel(t, here[0], here[1], there[0], perms[s.next(0, int64(len(perms))-1)])
+		glueModel(t, here[0], here[1], there[0], s.fittingPerm(here[1], there[1], -1))
 	}
 	return t
 }

@@ -296,23 +296,31 @@ func relabelledTexts(tri impl.Triangulation) map[string]bool {
 	return texts
 }
 
+// countedTriangulations returns the closed connected manifolds and the ideal triangulations with one and
+// two tetrahedra: one of all that only differ by their numberings.
+func countedTriangulations() []impl.Triangulation {
+	var list []impl.Triangulation
+	seen := map[string]bool{}
+	for _, tri := range append(oneTetTriangulations(), closedTwos()...) {
+		if seen[modelText(tri)] || !impl.IsClosed(tri) || !impl.IsManifold(tri) && !impl.IsIdeal(tri) {
+			continue
+		}
+		list = append(list, tri)
+		maps.Copy(seen, relabelledTexts(tri))
+	}
+	return list
+}
+
 // TestCountedTriangulations counts closed connected manifolds and ideal triangulations that do not only
 // differ by their numberings: with one tetrahedron there are 4 and 1, with two tetrahedra 17 and 18.
 func TestCountedTriangulations(t *testing.T) {
 	manifolds, ideal := map[int]int{}, map[int]int{}
-	seen := map[string]bool{}
-	for _, tri := range append(oneTetTriangulations(), closedTwos()...) {
-		if seen[modelText(tri)] || !impl.IsClosed(tri) {
-			continue
-		}
-		counts := manifolds
+	for _, tri := range countedTriangulations() {
 		if impl.IsIdeal(tri) {
-			counts = ideal
-		} else if !impl.IsManifold(tri) {
-			continue
+			ideal[len(tri.Tets)]++
+		} else {
+			manifolds[len(tri.Tets)]++
 		}
-		counts[len(tri.Tets)]++
-		maps.Copy(seen, relabelledTexts(tri))
 	}
 	if manifolds[1] != 4 || manifolds[2] != 17 || ideal[1] != 1 || ideal[2] != 18 {
 		t.Error(manifolds, ideal)

@@ -131,20 +131,11 @@ func sameLinkResults(a linkResults, b linkResults) bool {
 		slices.Equal(a.eulers, b.eulers) && slices.Equal(a.numbers, b.numbers) && slices.Equal(a.answers, b.answers)
 }
 
-// spoil overwrites all the memory of the results, each list by a number of its own, and finds lists that
-// share some.
+// spoil overwrites all the memory of the results, and finds lists that share some.
 func (r linkResults) spoil(t *testing.T) {
 	t.Helper()
 	tables := append(r.corners, r.components)
-	lists := append(slices.Concat(tables...), r.eulers)
-	for i, list := range lists {
-		copy(list[:cap(list)], repeated(int64(1000+i), cap(list)))
-	}
-	for i, list := range lists {
-		if !slices.Equal(list[:cap(list)], repeated(int64(1000+i), cap(list))) {
-			t.Fatal("two lists share memory", i)
-		}
-	}
+	spoilLists(t, append(slices.Concat(tables...), r.eulers))
 	for i, table := range tables {
 		clear(table[:cap(table)])
 		for _, list := range slices.Concat(tables[i+1:]...) {
